@@ -1,0 +1,79 @@
+package copse
+
+import (
+	"errors"
+	"slices"
+	"strings"
+	"testing"
+
+	"copse/api"
+)
+
+const example = `<ul id="a"><LI class="x y">one</li><li>t&amp;wo<br></li></ul>`
+
+const longName = "abcdefghijklmnop" // as long as a name may be
+
+func mustParse(t *testing.T, text string) *Doc {
+	t.Helper()
+	d, err := Parse(text)
+	if d == nil || err != nil {
+		t.Fatalf("Parse(%.200q) = %v, %v; want a document", text, d, err)
+	}
+	return d
+}
+
+// refused checks that the text is refused so, with no document beside it.
+func refused(t *testing.T, text string, code api.Errno, place int) {
+	t.Helper()
+	d, err := Parse(text)
+	if d != nil || err == nil {
+		t.Errorf("Parse(%.200q) = %v, %v; want code %d at %d", text, d, err, code, place)
+		return
+	}
+	var fault *api.Fault
+	if !errors.As(err, &fault) {
+		t.Errorf("Parse(%.200q): no fault in %v", text, err)
+		return
+	}
+	if fault.Code != code || fault.Place != place {
+		t.Errorf("Parse(%.200q): code %d at %d; want %d at %d", text, fault.Code, fault.Place, code, place)
+	}
+	for _, other := range []api.Errno{api.ErrLong, api.ErrSyntax, api.ErrLimit} {
+		if errors.Is(err, other) != (other == code) {
+			t.Errorf("Parse(%.200q): errors.Is of %d is %v", text, other, errors.Is(err, other))
+		}
+	}
+}
+
+func nested(name string, depth int, inside string) string {
+	return strings.Repeat("<"+name+">", depth) + inside + strings.Repeat("</"+name+">", depth)
+}
+
+// element is all that is told of one.
+type element struct {
+	name   string
+	parent int
+	text   string
+}
+
+func elementsOf(d *Doc) []element {
+	var all []element
+	for n := range d.Len() {
+		all = append(all, element{d.Name(n), d.Parent(n), d.Text(n)})
+	}
+	return all
+}
+
+func checkElements(t *testing.T, text string, want ...element) {
+	t.Helper()
+	if got := elementsOf(mustParse(t, text)); !slices.Equal(got, want) {
+		t.Errorf("elements of %q: %v; want %v", text, got, want)
+	}
+}
+
+func checkAttr(t *testing.T, d *Doc, n int, name, value string, there bool) {
+	t.Helper()
+	if v, ok := d.Attr(n, name); v != value || ok != there {
+		t.Errorf("Attr(%d, %q) = %q, %v; want %q, %v", n, name, v, ok, value, there)
+	}
+}
