@@ -4,6 +4,7 @@ package copse
 import (
 	"copse/markup"
 	"copse/scan"
+	"copse/selector"
 	"copse/tree"
 )
 
@@ -11,7 +12,7 @@ import (
 type Doc struct{ tree tree.Tree }
 
 // Selector says which elements are meant.
-type Selector struct{}
+type Selector struct{ list selector.List }
 
 // Parse reads a document (P3).
 func Parse(text string) (*Doc, error) {
@@ -23,7 +24,13 @@ func Parse(text string) (*Doc, error) {
 }
 
 // Compile reads a selector (P3).
-func Compile(text string) (*Selector, error) { return nil, nil }
+func Compile(text string) (*Selector, error) {
+	read, err := selector.Read(text)
+	if err != nil {
+		return nil, &refusal{scan.While("selector", err)}
+	}
+	return &Selector{list: read}, nil
+}
 
 // Len tells how many elements there are (P4).
 func (d *Doc) Len() int { return len(d.tree.Elements) }
@@ -46,7 +53,7 @@ func (d *Doc) Text(n int) string { return d.tree.TextOf(n) }
 func (d *Doc) Write() string { return markup.Write(&d.tree) }
 
 // Write writes the selector in one way (P6).
-func (s *Selector) Write() string { return "" }
+func (s *Selector) Write() string { return selector.Write(s.list) }
 
 // All tells all elements that are meant (P7).
 func (d *Doc) All(s *Selector) []int { return nil }

@@ -202,23 +202,46 @@ func checkGrammar(t *testing.T, text string) {
 	}
 }
 
-func TestP3AllShortTextsFollowTheGrammar(t *testing.T) {
-	words := []string{
-		"<", "</", ">", "/>", "p", "P", "br", "a", " ", "\n", "=", "\"", "=\"b\"", "<!--", "--", "-", "&", "amp;", "&lt;", "&qu", "1", "_", "!", "\x00", "<p", "</p>", "<p>", longName,
-	}
+// eachRow gives all rows of one to that many words.
+func eachRow(words []string, most int, check func(text string)) {
 	texts := []string{""}
-	for range 3 {
+	for range most {
 		var longer []string
 		for _, text := range texts {
 			for _, word := range words {
 				longer = append(longer, text+word)
+				check(text + word)
 			}
 		}
 		texts = longer
-		for _, text := range texts {
-			checkGrammar(t, text)
+	}
+}
+
+// eachChange gives the beginnings and ends of the text, and texts in which a byte or a part is more, less or another one.
+func eachChange(text string, check func(text string)) {
+	for at := range len(text) + 1 {
+		check(text[:at])
+		check(text[at:])
+		for b := range 256 {
+			one := string([]byte{byte(b)})
+			check(text[:at] + one + text[at:])
+			if at < len(text) {
+				check(text[:at] + one + text[at+1:])
+			}
+		}
+		for behind := at + 1; behind <= len(text); behind++ {
+			check(text[:at] + text[behind:])
+			check(text[:behind] + text[at:])
 		}
 	}
+}
+
+func TestP3AllShortTextsFollowTheGrammar(t *testing.T) {
+	words := []string{
+		"<", "</", ">", "/>", "p", "P", "br", "a", " ", "\n", "=", "\"", "=\"b\"", "<!--", "--", "-", "&", "amp;", "&lt;", "&qu", "1", "_", "!", "\x00", "<p", "</p>", "<p>", longName,
+	}
+	checkGrammar(t, "")
+	eachRow(words, 3, func(text string) { checkGrammar(t, text) })
 }
 
 func TestP3ChangedDocumentsFollowTheGrammar(t *testing.T) {
@@ -228,20 +251,6 @@ func TestP3ChangedDocumentsFollowTheGrammar(t *testing.T) {
 		"<p " + longName + " " + longName[:15] + "q " + longName[:15] + "><br/></p>",
 		"<a><b><c x y=\"1\">&lt;</c></b><hr>&gt;</a>",
 	} {
-		for at := range len(text) + 1 {
-			checkGrammar(t, text[:at])
-			checkGrammar(t, text[at:])
-			for b := range 256 {
-				one := string([]byte{byte(b)})
-				checkGrammar(t, text[:at]+one+text[at:])
-				if at < len(text) {
-					checkGrammar(t, text[:at]+one+text[at+1:])
-				}
-			}
-			for behind := at + 1; behind <= len(text); behind++ {
-				checkGrammar(t, text[:at]+text[behind:])
-				checkGrammar(t, text[:behind]+text[at:])
-			}
-		}
+		eachChange(text, func(text string) { checkGrammar(t, text) })
 	}
 }

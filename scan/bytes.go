@@ -13,6 +13,8 @@ func isDigit(b byte) bool { return b >= '0' && b <= '9' }
 
 func isNameByte(b byte) bool { return isLetter(b) || isDigit(b) || b == '-' }
 
+func isWordByte(b byte) bool { return isNameByte(b) || b == '_' }
+
 func smallByte(b byte) byte {
 	if b >= 'A' && b <= 'Z' {
 		return b + ('a' - 'A')

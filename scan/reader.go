@@ -1,7 +1,12 @@
 // Package scan goes through a text, byte by byte.
 package scan
 
-import "copse/api"
+import (
+	"slices"
+	"strings"
+
+	"copse/api"
+)
 
 // Reader never goes back, and takes a byte only where some right text goes on with it. So the place where it stands when reading fails is the longest beginning that could have become right.
 type Reader struct {
@@ -49,6 +54,24 @@ func (r *Reader) Expect(text string) error {
 	return nil
 }
 
+// OneOf takes the one of the words that stands ahead, and tells which one it is. No word may begin another one.
+func (r *Reader) OneOf(words []string) (int, error) {
+	from := r.place
+	for {
+		taken := r.text[from:r.place]
+		if i := slices.Index(words, taken); i >= 0 {
+			return i, nil
+		}
+		goesOn := func(word string) bool {
+			return strings.HasPrefix(word, taken) && word[len(taken)] == r.Peek()
+		}
+		if !slices.ContainsFunc(words, goesOn) {
+			return 0, r.Fail()
+		}
+		r.place++
+	}
+}
+
 // Spaces takes all spaces ahead, and tells whether there were any.
 func (r *Reader) Spaces() bool {
 	from := r.place
@@ -68,11 +91,7 @@ func (r *Reader) NewName(taken func(name string) bool) (string, error) {
 	if !isLetter(r.Peek()) {
 		return "", r.Fail()
 	}
-	from := r.place
-	for isNameByte(r.Peek()) && r.place-from < api.MaxName {
-		r.place++
-	}
-	name := Small(r.text[from:r.place])
+	name := Small(r.run(isNameByte))
 	again := taken(name)
 	if again && len(name) == api.MaxName {
 		// A shorter one may still go on to another name; of this one the last byte is too much already.
@@ -82,6 +101,43 @@ func (r *Reader) NewName(taken func(name string) bool) (string, error) {
 		return "", r.Fail()
 	}
 	return name, nil
+}
+
+// Word takes a word.
+func (r *Reader) Word() (string, error) {
+	word := r.run(isWordByte)
+	if word == "" || isWordByte(r.Peek()) {
+		return "", r.Fail()
+	}
+	return strings.Clone(word), nil
+}
+
+// run takes the bytes ahead that are of that kind, no more than a name may have.
+func (r *Reader) run(isPart func(b byte) bool) string {
+	from := r.place
+	for isPart(r.Peek()) && r.place-from < api.MaxName {
+		r.place++
+	}
+	return r.text[from:r.place]
+}
+
+// Digit takes a digit, if one is ahead, and tells its value.
+func (r *Reader) Digit() (int, bool) {
+	b := r.Peek()
+	if !isDigit(b) {
+		return 0, false
+	}
+	r.place++
+	return int(b - '0'), true
+}
+
+// Until takes all bytes ahead of that one, and tells them.
+func (r *Reader) Until(end byte) string {
+	from := r.place
+	for r.Peek() != end && r.Peek() != Nothing {
+		r.place++
+	}
+	return strings.Clone(r.text[from:r.place])
 }
 
 // ExpectName takes the name that has to stand ahead, told in small letters.
