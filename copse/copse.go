@@ -2,6 +2,7 @@
 package copse
 
 import (
+	"copse/find"
 	"copse/markup"
 	"copse/scan"
 	"copse/selector"
@@ -56,13 +57,13 @@ func (d *Doc) Write() string { return markup.Write(&d.tree) }
 func (s *Selector) Write() string { return selector.Write(s.list) }
 
 // All tells all elements that are meant (P7).
-func (d *Doc) All(s *Selector) []int { return nil }
+func (d *Doc) All(s *Selector) []int { return find.All(&d.tree, s.list) }
 
 // First tells the first of them (P7).
-func (d *Doc) First(s *Selector) int { return 0 }
+func (d *Doc) First(s *Selector) int { return find.First(&d.tree, s.list) }
 
 // Is tells whether an element is meant (P7).
-func (d *Doc) Is(n int, s *Selector) bool { return false }
+func (d *Doc) Is(n int, s *Selector) bool { return find.Is(&d.tree, s.list, n) }
 
 // Closest tells the first one that is meant, from an element outwards (P7).
-func (d *Doc) Closest(n int, s *Selector) int { return 0 }
+func (d *Doc) Closest(n int, s *Selector) int { return find.Closest(&d.tree, s.list, n) }

@@ -9,6 +9,7 @@ import (
 
 type reader struct {
 	*scan.Reader
+	steps   int
 	simples int
 	lists   int // that are open
 	deepest int // most lists that were open at once
@@ -70,7 +71,8 @@ func (r *reader) complex() (Complex, error) {
 		if err != nil {
 			return nil, err
 		}
-		steps = append(steps, Step{combinator, compound})
+		steps = append(steps, Step{r.steps, combinator, compound})
+		r.steps++
 		combinator, more = r.combinator()
 	}
 	return steps, nil

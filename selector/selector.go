@@ -9,6 +9,7 @@ type Complex []Step
 
 // Step is a compound, and how it stands to the one ahead.
 type Step struct {
+	Number     int  // from 0 on, among all steps of the selector, also those of lists within
 	Combinator byte // scan.Nothing: no other one is ahead
 	Compound   Compound
 }

@@ -3,6 +3,7 @@ package selector
 import (
 	"errors"
 	"reflect"
+	"slices"
 	"strings"
 	"testing"
 
@@ -22,22 +23,50 @@ func TestReadGivesTheWholeForm(t *testing.T) {
 	list := read(t, " Ul#A > *.b[C|=\"D e\" i]+:is(f,:nth-child(-2n - 03)) g~[h],:nth-child(odd):root")
 	want := List{
 		{
-			{0, Compound{"ul", []Simple{{Kind: ID, Word: "A"}}}},
-			{Parent, Compound{Any, []Simple{{Kind: Class, Word: "b"}, {Kind: HasAttribute, Attribute: Attribute{"c", "|=", "D e", true}}}}},
-			{Before, Compound{"", []Simple{{Kind: Is, List: List{
-				{{0, Compound{"f", nil}}},
-				{{0, Compound{"", []Simple{{Kind: NthChild, Nth: Nth{HasN: true, A: -2, B: -3}}}}}},
+			{0, 0, Compound{"ul", []Simple{{Kind: ID, Word: "A"}}}},
+			{1, Parent, Compound{Any, []Simple{{Kind: Class, Word: "b"}, {Kind: HasAttribute, Attribute: Attribute{"c", "|=", "D e", true}}}}},
+			{4, Before, Compound{"", []Simple{{Kind: Is, List: List{
+				{{2, 0, Compound{"f", nil}}},
+				{{3, 0, Compound{"", []Simple{{Kind: NthChild, Nth: Nth{HasN: true, A: -2, B: -3}}}}}},
 			}}}}},
-			{Around, Compound{"g", nil}},
-			{Ahead, Compound{"", []Simple{{Kind: HasAttribute, Attribute: Attribute{Name: "h"}}}}},
+			{5, Around, Compound{"g", nil}},
+			{6, Ahead, Compound{"", []Simple{{Kind: HasAttribute, Attribute: Attribute{Name: "h"}}}}},
 		},
-		{{0, Compound{"", []Simple{{Kind: NthChild, Nth: Nth{"odd", true, 2, 1}}, {Kind: Root}}}}},
+		{{7, 0, Compound{"", []Simple{{Kind: NthChild, Nth: Nth{"odd", true, 2, 1}}, {Kind: Root}}}}},
 	}
 	if !reflect.DeepEqual(list, want) {
 		t.Errorf("read %+v; want %+v", list, want)
 	}
 	if got := Write(list); got != "ul#A>*.b[c|=\"D e\" i]+:is(f,:nth-child(-2n-3)) g~[h],:nth-child(odd):root" {
 		t.Errorf("written %q", got)
+	}
+}
+
+// numbersIn tells the numbers of all steps, also those of lists within.
+func numbersIn(list List) []int {
+	var numbers []int
+	for _, steps := range list {
+		for _, step := range steps {
+			numbers = append(numbers, step.Number)
+			for _, simple := range step.Compound.Simples {
+				numbers = append(numbers, numbersIn(simple.List)...)
+			}
+		}
+	}
+	return numbers
+}
+
+func TestEachStepHasItsOwnNumber(t *testing.T) {
+	for text, steps := range map[string]int{
+		"*": 1, strings.Repeat("p,", 99) + "p": 100, strings.Repeat("p ", 99) + "p": 100, ":is(a,b+c):not(d e~f>:is(g,:not(h)))~i": 12,
+	} {
+		numbers := numbersIn(read(t, text))
+		slices.Sort(numbers)
+		for i, number := range numbers {
+			if number != i || len(numbers) != steps {
+				t.Fatalf("%.50q has the numbers %v; want %d, from 0 on", text, numbers, steps)
+			}
+		}
 	}
 }
 

@@ -44,6 +44,30 @@ func (t *Tree) Parent(n int) int {
 	return t.Elements[n].Parent
 }
 
+// Before tells the sibling just ahead of an element. Siblings begin behind their parent.
+func (t *Tree) Before(n int) int {
+	parent := t.Parent(n)
+	for m := n - 1; t.Has(n) && m > parent; m-- {
+		if t.Elements[m].Parent == parent {
+			return m
+		}
+	}
+	return None
+}
+
+// Behind tells the sibling just behind an element.
+func (t *Tree) Behind(n int) int {
+	for m := n + 1; t.Has(n) && t.Has(m); m++ {
+		if t.Elements[m].Parent == t.Elements[n].Parent {
+			return m
+		}
+	}
+	return None
+}
+
+// HasElement tells whether an element lies in that one: the first such one begins next.
+func (t *Tree) HasElement(n int) bool { return t.Has(n) && t.Parent(n+1) == n }
+
 // Attribute tells the value of an element's attribute, asked for in small letters.
 func (t *Tree) Attribute(n int, name string) (string, bool) {
 	if !t.Has(n) {

@@ -42,8 +42,30 @@ func TestTreeTellsNothingOfNoElement(t *testing.T) {
 	tr := built()
 	for _, n := range []int{math.MinInt, -1, 2, math.MaxInt} {
 		value, there := tr.Attribute(n, "x")
-		if tr.Has(n) || tr.Name(n) != "" || tr.Parent(n) != None || tr.TextOf(n) != "" || value != "" || there {
+		if tr.Has(n) || tr.Name(n) != "" || tr.Parent(n) != None || tr.TextOf(n) != "" || value != "" || there || tr.Before(n) != None || tr.Behind(n) != None || tr.HasElement(n) {
 			t.Errorf("of %d something is told", n)
+		}
+	}
+}
+
+func TestTreeTellsWhatLiesAround(t *testing.T) {
+	b := NewBuilder() // 0: (1: (2), 3: (4, 5), 6), 7, 8: (9)
+	for _, what := range "((())(()())())()(())" {
+		if what == '(' {
+			b.Begin("p", nil)
+		} else {
+			b.End()
+		}
+	}
+	tr := b.Tree()
+	for n, want := range []struct {
+		before, behind int
+		has            bool
+	}{
+		{None, 7, true}, {None, 3, true}, {None, None, false}, {1, 6, true}, {None, 5, false}, {4, None, false}, {3, None, false}, {0, 8, false}, {7, None, true}, {None, None, false},
+	} {
+		if tr.Before(n) != want.before || tr.Behind(n) != want.behind || tr.HasElement(n) != want.has {
+			t.Errorf("around %d: %d, %d, %v; want %v", n, tr.Before(n), tr.Behind(n), tr.HasElement(n), want)
 		}
 	}
 }
